@@ -75,17 +75,21 @@ func TestFrac(t *testing.T) {
 	})
 }
 
-// Beside false, all fields are zero values.
+// Beside false stands 0 in canonical form, whatever the forms of the arguments.
 func TestFracBy0(t *testing.T) {
-	for _, a := range []whole.Int{pos(), neg(0), pos(7), neg(7), neg(5, 6, 0)} {
+	check := func(a whole.Int) {
 		for _, b := range []whole.Int{pos(), neg(), pos(0, 0), neg(0, 0)} {
 			got, ok := ratio.Frac(a, b)
-			is(t, "Frac by 0", got, ratio.Rat{})
+			is(t, "Frac by 0", got, rat(pos(), 1))
 			if ok {
 				t.Errorf("Frac(%v, %v): got true", a, b)
 			}
 		}
 	}
+	for _, a := range []whole.Int{pos(), neg(0), pos(5), neg(5), neg(5, 6, 0)} {
+		check(a)
+	}
+	samples(t, 4, func(a, _, _ ratio.Rat) { check(a.Num) })
 }
 
 func TestCmp(t *testing.T) {

@@ -106,17 +106,21 @@ func TestQuo(t *testing.T) {
 	samples(t, 4, func(a, b, _ ratio.Rat) { check(a, b) })
 }
 
-// Beside false, all fields are zero values.
+// Beside false stands 0 in canonical form, whatever the forms of the arguments.
 func TestQuoBy0(t *testing.T) {
-	for _, a := range []ratio.Rat{{}, rat(neg(0), 3), rat(pos(7), 2), rat(neg(7)), rat(neg(5, 6, 0), 0)} {
+	check := func(a ratio.Rat) {
 		for _, b := range []ratio.Rat{{}, rat(neg()), rat(pos(0, 0), 7), rat(neg(0, 0), 0), rat(pos(), 1)} {
 			got, ok := ratio.Quo(a, b)
-			is(t, "Quo by 0", got, ratio.Rat{})
+			is(t, "Quo by 0", got, rat(pos(), 1))
 			if ok {
 				t.Errorf("Quo(%v, %v): got true", a, b)
 			}
 		}
 	}
+	for _, a := range []ratio.Rat{{}, rat(neg(0), 3), rat(pos(7), 2), rat(neg(7)), rat(neg(5, 6, 0), 0)} {
+		check(a)
+	}
+	samples(t, 4, func(a, _, _ ratio.Rat) { check(a) })
 }
 
 func TestNeg(t *testing.T) {
